@@ -1,0 +1,31 @@
+"""The calls on one swarm of bodies, handed in as one list of whole numbers."""
+
+from pullswarm.swarm import Swarm
+
+BEGIN = 0
+PUT = 1
+
+# By a call's number (2 is set), how many whole numbers stand behind it.
+LENGTHS = {0: 2, 1: 7, 2: 8}
+
+
+def answer_call(swarm, call, handed):
+    if call == BEGIN:
+        return [swarm.begin(handed[0], handed[1])]
+    if call == PUT:
+        return [swarm.put(handed)]
+    return [swarm.set_body(handed[0], handed[1:])]
+
+
+def answers(calls):
+    """For each call, in order: how many numbers are answered, then these."""
+    swarm = Swarm()
+    given = []
+    at = 0
+    while at < len(calls):
+        behind = at + 1 + LENGTHS[calls[at]]
+        answered = answer_call(swarm, calls[at], calls[at + 1:behind])
+        given.append(len(answered))
+        given.extend(answered)
+        at = behind
+    return given
