@@ -4,9 +4,12 @@ from pullswarm.swarm import Swarm
 
 BEGIN = 0
 PUT = 1
+SET = 2
+STEP = 3
+GET = 4
 
-# By a call's number (2 is set), how many whole numbers stand behind it.
-LENGTHS = {0: 2, 1: 7, 2: 8}
+# By a call's number (5 is energy), how many whole numbers stand behind it.
+LENGTHS = {0: 2, 1: 7, 2: 8, 3: 2, 4: 1, 5: 0}
 
 
 def answer_call(swarm, call, handed):
@@ -14,7 +17,13 @@ def answer_call(swarm, call, handed):
         return [swarm.begin(handed[0], handed[1])]
     if call == PUT:
         return [swarm.put(handed)]
-    return [swarm.set_body(handed[0], handed[1:])]
+    if call == SET:
+        return [swarm.set_body(handed[0], handed[1:])]
+    if call == STEP:
+        return [swarm.step(handed[0], handed[1])]
+    if call == GET:
+        return swarm.get_body(handed[0])
+    return swarm.energy()
 
 
 def answers(calls):

@@ -1,23 +1,18 @@
 """What is told of a double by its bits, held against Python's own floats."""
 
 import math
-import struct
 import unittest
 
 from pullswarm.doubles import is_above_zero, is_below_zero, is_finite
 from tests.helper import (
     BELOW_ZERO, GREATEST, INFINITY, MINUS_GREATEST, MINUS_INFINITY, MINUS_SMALLEST, MINUS_ZERO, NOT_FINITE, PLUS_ZERO,
-    SMALLEST, bits,
+    SMALLEST, bits, worth,
 )
 
 FINITE = BELOW_ZERO + (
     PLUS_ZERO, MINUS_ZERO, SMALLEST, bits(2.0 ** -1022), bits(2.0 ** -1022) - 1, bits(0.1), bits(1.0), bits(1e300),
     GREATEST,
 )
-
-
-def worth(number):
-    return struct.unpack("<d", struct.pack("<Q", number))[0]
 
 
 class DoublesTest(unittest.TestCase):

@@ -99,7 +99,8 @@ class FullTest(unittest.TestCase):
 
     def test_the_last_body_can_be_set(self):
         self.assertEqual(self.swarm.set_body(MOST - 1, OTHER_BODY), 0)
-        self.assertEqual(self.swarm.bodies[MOST - 1], OTHER_BODY)
+        self.assertEqual(self.swarm.get_body(MOST - 1), [0] + OTHER_BODY)
+        self.assertEqual(self.swarm.get_body(MOST), [-2])
         self.assertEqual(self.swarm.set_body(MOST, OTHER_BODY), -2)
         self.assertEqual(self.swarm.set_body(MOST, with_number(BODY, 0, PLUS_ZERO)), -2)
 
